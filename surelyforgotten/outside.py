@@ -31,6 +31,10 @@ class Outside:
 
     def put_register(self, content):
         self.note([2] + content)
+        self.lay_register(content)
+
+    def lay_register(self, content):
+        """Notes nothing, since bytes may come from elsewhere, too."""
         self.in_register = list(content)
 
     def read_page(self, page):
@@ -42,7 +46,15 @@ class Outside:
 
     def write_page(self, page, content):
         self.note([4, page] + content)
+        self.lay_page(page, content)
+
+    def lay_page(self, page, content):
+        """Notes nothing, since bytes may come from elsewhere, too."""
         self.pages[page] = list(content)
+
+    def ask_new_keys(self, count):
+        """All keys of a call are asked for ahead of its first writing, the root's first."""
+        return [self.ask_new_key() for turn in range(count)]
 
     def ask_new_key(self):
         self.note([5])

@@ -1,7 +1,8 @@
 """What the calls do: each gives back what it answers ahead of what was asked."""
 
-from surelyforgotten.nodes import DATA_SIZE, REGISTER_SIZE, leaf_content, register_content
-from surelyforgotten.way import LEAF_DEPTH, go_way, read_copy, write_copy, write_upwards
+from surelyforgotten.nodes import DATA_SIZE, REGISTER_SIZE, leaf_content, no_link, register_content
+from surelyforgotten.way import LEAF_DEPTH, count_staying, go_way, read_copy, write_copy
+from surelyforgotten.way import write_upwards
 
 
 def clear_all(outside):
@@ -24,12 +25,22 @@ def put_slot(outside, slot, data):
     way = go_way(outside, slot)
     if way.refusal != 0:
         return [way.refusal]
-    # All keys are asked for ahead of the first writing, the root's first.
-    keys = []
-    for depth in range(LEAF_DEPTH + 1):
-        keys.append(outside.ask_new_key())
+    keys = outside.ask_new_keys(LEAF_DEPTH + 1)
     node = way.nodes[LEAF_DEPTH]
     leaf = write_copy(outside, node, way.links[LEAF_DEPTH], keys[LEAF_DEPTH], leaf_content(data))
     root = write_upwards(outside, way, keys[0:LEAF_DEPTH], leaf)
+    outside.put_register(register_content(root))
+    return [0]
+
+
+def forget_slot(outside, slot):
+    way = go_way(outside, slot)
+    if way.refusal != 0:
+        return [way.refusal]
+    if not way.links[LEAF_DEPTH].is_there():
+        return [-2]
+    keys = outside.ask_new_keys(count_staying(way))
+    # If none stays there is nothing to write, and no root either: the register gets 0s.
+    root = write_upwards(outside, way, keys, no_link())
     outside.put_register(register_content(root))
     return [0]

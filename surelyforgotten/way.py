@@ -27,6 +27,10 @@ class Way:
         """0 if the way goes on to the left child, 1 if to the right one."""
         return self.nodes[depth + 1] % 2
 
+    def child_beside(self, depth):
+        """The link to the child that the way doesn't go on to."""
+        return self.branches[depth][1 - self.side_below(depth)]
+
 
 def go_way(outside, slot):
     """Goes the way; what isn't there is linked to by copy 0, and nothing is asked of it."""
@@ -70,10 +74,18 @@ def write_copy(outside, node, old_link, key, content):
     return link
 
 
+def count_staying(way):
+    """How many branches, from the root on, are still needed when the leaf is forgotten."""
+    for depth in range(LEAF_DEPTH - 1, -1, -1):
+        if way.child_beside(depth).is_there():
+            return depth + 1
+    return 0
+
+
 def write_upwards(outside, way, keys, child):
     """Writes the branches that have a key in keys, the lowest first; gives back the root's link.
 
-    child is the new link of the lowest one's child on the way.
+    child is the new link of the lowest one's child on the way, or, without keys, the root's.
     """
     link = child
     for depth in range(len(keys) - 1, -1, -1):

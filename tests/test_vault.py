@@ -1,24 +1,12 @@
-"""answers(calls): the promises 1 to 3, their edges, and what holds."""
+"""clear, get and put: the promises 1 to 3 and their edges."""
 
 import unittest
 
 from surelyforgotten.vault import answers
-from vault_model import (Session, clear_call, counting_pages, data_bytes, get_call, key_bytes,
-                         keys_of, put_call, split_answer, split_answers, way_to)
+from vault_model import (Session, VaultCase, clear_call, data_bytes, get_call, key_bytes, keys_of,
+                         put_call, split_answers, way_to)
 
 LARGEST = 2 ** 32 - 1
-
-
-class VaultCase(unittest.TestCase):
-    def check(self, session):
-        """The answers one by one, so that a failure tells the call."""
-        given = split_answers(answers(session.calls))
-        self.assertEqual(len(given), len(session.wanted))
-        for place, (answer, wanted) in enumerate(zip(given, session.wanted)):
-            self.assertEqual(answer, wanted, "call %d" % place)
-
-    def asked(self, calls, place, has_data=False):
-        return split_answer(split_answers(answers(calls))[place], has_data)
 
 
 class ClearTest(VaultCase):
@@ -221,85 +209,6 @@ class RefusalTest(VaultCase):
             for above in range(depth + 1):
                 wanted += [[3, 2 ** (above + 1)], [6] + keys[above]]
             self.assertEqual((number, asked), (-2, wanted))
-
-
-class ListTest(VaultCase):
-    def test_list_handed_in_stays(self):
-        session = Session()
-        for slot in [4, 5, 4, 1024]:
-            session.put(slot, data_bytes(slot))
-            session.get(slot)
-        session.clear()
-        before = list(session.calls)
-        answers(session.calls)
-        self.assertEqual(session.calls, before)
-
-    def test_nothing_is_left_for_the_next_time(self):
-        calls = put_call(4, data_bytes(1), keys_of(1)) + get_call(4)
-        first = answers(calls)
-        self.assertEqual(answers(get_call(4)), [3, -2, 1, 1])
-        first_again = answers(calls)
-        self.assertEqual(first_again, first)
-        # What's given back is the caller's own.
-        first_again.clear()
-        self.assertEqual(answers(calls), first)
-
-    def test_a_thousand_calls(self):
-        session = Session()
-        for slot in range(60):
-            session.put(slot * 389 % 1024, data_bytes(slot))
-        for turn in range(940):
-            session.get(turn * 389 % 1024)
-        self.assertLessEqual(len(session.calls), 31000)
-        self.check(session)
-
-    def test_whole_numbers_alone(self):
-        calls = put_call(4, data_bytes(1), keys_of(1)) + put_call(5, data_bytes(1), keys_of(2))
-        calls += get_call(4) + get_call(6) + get_call(1024) + clear_call()
-        given = answers(calls)
-        self.assertIs(given.__class__, list)
-        self.assertEqual({number.__class__ for number in given}, {int})
-
-    def test_mixed_calls(self):
-        """A long run over few and over many slots, with clears, refused slots and gets."""
-        for width in [2, 5, 64, 1030]:
-            session = Session()
-            state = width
-            for turn in range(150):
-                state = (state * 1103515245 + 12345) % 2 ** 31
-                slot = (state >> 8) % width
-                kind = (state >> 20) % 25
-                if kind == 0:
-                    session.clear()
-                elif kind < 10 and session.puts < 70:
-                    session.put(slot, data_bytes(state))
-                else:
-                    session.get(slot)
-            self.assertLessEqual(len(session.calls), 31000)
-            self.check(session)
-
-
-class HoldsTest(VaultCase):
-    def test_no_counting_page_is_written_and_nothing_is_lost(self):
-        """The asked things are done again here, and looked at behind each of them."""
-        slots = [0, 1, 0, 1023, 512, 0, 3, 3, 1023, 2, 1, 1]
-        calls = []
-        for turn, slot in enumerate(slots):
-            calls += put_call(slot, data_bytes(turn), keys_of(turn))
-        register = [0] * 40
-        pages = {}
-        stored = {}
-        for turn, answer in enumerate(split_answers(answers(calls))):
-            for thing in split_answer(answer)[2]:
-                if thing[0] == 4:
-                    counting, data = counting_pages(register, pages)
-                    self.assertNotIn(thing[1], counting)
-                    self.assertEqual(data, stored)
-                    pages[thing[1]] = thing[2:]
-                if thing[0] == 2:
-                    register = thing[1:]
-            stored[slots[turn]] = data_bytes(turn)
-            self.assertEqual(counting_pages(register, pages)[1], stored)
 
 
 if __name__ == "__main__":

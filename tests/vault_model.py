@@ -4,6 +4,10 @@ The model keeps no pages: it knows each node's copy, key and what's to stand und
 the calls alone, so that it goes another way than the program does.
 """
 
+import unittest
+
+from surelyforgotten.vault import answers
+
 NO_KEY = [0] * 32
 
 
@@ -32,6 +36,19 @@ def put_call(slot, data, keys):
 
 def get_call(slot):
     return [2, slot]
+
+
+def forget_call(slot, keys):
+    script = [byte for key in keys for byte in key]
+    return [3, slot, len(script)] + script
+
+
+def register_call(content):
+    return [4, len(content)] + content
+
+
+def page_call(page, content):
+    return [5, page, len(content)] + content
 
 
 def split_answers(given):
@@ -127,14 +144,20 @@ class Model:
             return [-22, 0]
         asked = self.asked_on_way(slot) + [[5]] * 11
         self.data[slot] = data
-        for node, key in reversed(list(zip(way_to(slot), keys))):
+        asked += self.asked_to_write(way_to(slot), keys)
+        return joined(0, [], asked)
+
+    def asked_to_write(self, nodes, keys):
+        asked = []
+        for node, key in reversed(list(zip(nodes, keys))):
             copy = {0: 1, 1: 2, 2: 1}[self.nodes.get(node, (0, NO_KEY))[0]]
             page = covered(self.content(node), key)
             asked += [[6] + key, [4, 2 * node + (copy == 2)] + page]
             self.nodes[node] = (copy, key)
+        if 1 not in self.nodes:
+            return asked + [[2] + [0] * 40]
         copy, key = self.nodes[1]
-        asked.append([2, copy, 0, 0, 0] + key + [0, 0, 0, 0])
-        return joined(0, [], asked)
+        return asked + [[2, copy, 0, 0, 0] + key + [0, 0, 0, 0]]
 
     def get(self, slot):
         if slot > 1023:
@@ -145,35 +168,89 @@ class Model:
         asked += self.asked_to_read(1024 + slot)
         return joined(0, self.data[slot], asked)
 
+    def forget(self, slot, keys):
+        if slot > 1023:
+            return [-22, 0]
+        asked = self.asked_on_way(slot)
+        if slot not in self.data:
+            return joined(-2, [], asked)
+        staying = self.staying(slot)
+        asked += [[5]] * len(staying)
+        del self.data[slot]
+        for node in way_to(slot)[len(staying):]:
+            del self.nodes[node]
+        asked += self.asked_to_write(staying, keys)
+        return joined(0, [], asked)
+
+    def staying(self, slot):
+        """The nodes that another slot's way goes by as well."""
+        others = {node for other in self.data if other != slot for node in way_to(other)}
+        return [node for node in way_to(slot) if node in others]
+
+    def put_count(self, slot):
+        """How many keys are asked for; so too in forget_count."""
+        return 11 if slot <= 1023 else 0
+
+    def forget_count(self, slot):
+        return len(self.staying(slot)) if slot in self.data else 0
+
 
 class Session:
     """Collects calls and, by the model, what they are to answer."""
 
-    def __init__(self):
+    def __init__(self, model=None):
         self.calls = []
         self.wanted = []
-        self.model = Model()
-        self.puts = 0
+        self.model = model or Model()
+        self.scripts = 0
+
+    def add(self, call, wanted):
+        self.calls += call
+        self.wanted.append(wanted)
+
+    def next_keys(self, count):
+        """Other ones each time, and none where none is asked for."""
+        if count == 0:
+            return []
+        self.scripts += 1
+        return keys_of(self.scripts)[:count]
 
     def clear(self):
-        self.calls += clear_call()
-        self.wanted.append(self.model.clear())
+        self.add(clear_call(), self.model.clear())
 
     def put(self, slot, data):
-        keys = []
-        if slot <= 1023:
-            self.puts += 1
-            keys = keys_of(self.puts)
-        self.calls += put_call(slot, data, keys)
-        self.wanted.append(self.model.put(slot, data, keys))
+        keys = self.next_keys(self.model.put_count(slot))
+        self.add(put_call(slot, data, keys), self.model.put(slot, data, keys))
 
     def get(self, slot):
-        self.calls += get_call(slot)
-        self.wanted.append(self.model.get(slot))
+        self.add(get_call(slot), self.model.get(slot))
+
+    def forget(self, slot):
+        keys = self.next_keys(self.model.forget_count(slot))
+        self.add(forget_call(slot, keys), self.model.forget(slot, keys))
+
+    def lay_register(self, content):
+        """The model must keep the register and pages, as Medium does; so too in lay_page."""
+        self.model.register = list(content)
+        self.add(register_call(content), [0])
+
+    def lay_page(self, page, content):
+        self.model.pages[page] = list(content)
+        self.add(page_call(page, content), [0])
 
 
-def uncovered_node(pages, page, key):
-    return covered(pages.get(page, [0] * 96), key)
+class VaultCase(unittest.TestCase):
+    """What the tests have in common."""
+
+    def check(self, session):
+        """The answers one by one, so that a failure tells the call."""
+        given = split_answers(answers(session.calls))
+        self.assertEqual(len(given), len(session.wanted))
+        for place, (answer, wanted) in enumerate(zip(given, session.wanted)):
+            self.assertEqual(answer, wanted, "call %d" % place)
+
+    def asked(self, calls, place, has_data=False):
+        return split_answer(split_answers(answers(calls))[place], has_data)
 
 
 def counting_pages(register, pages):
@@ -187,7 +264,7 @@ def counting_pages(register, pages):
             continue
         page = 2 * node + copy - 1
         found[page] = node
-        content = uncovered_node(pages, page, key)
+        content = covered(pages.get(page, [0] * 96), key)
         if node >= 1024:
             data[node - 1024] = content[:64]
         else:
